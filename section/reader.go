@@ -3,41 +3,10 @@ package section
 import (
 	"torpor/api"
 	"torpor/crc"
+	"torpor/fail"
 	"torpor/octet"
 	"torpor/varint"
 )
-
-// wrong is what a reading panics with: a kind of its own, so that no other panic is taken for it.
-type wrong api.Errno
-
-// end ends the reading.
-func end(e api.Errno) {
-	panic(wrong(e))
-}
-
-// must ends the reading, unless all is right.
-func must(e api.Errno) {
-	if e != api.OK {
-		end(e)
-	}
-}
-
-// caught: what ended a reading; OK, if nothing did.
-func caught(read func()) (e api.Errno) {
-	defer func() {
-		what := recover()
-		if what == nil {
-			return
-		}
-		w, ok := what.(wrong)
-		if !ok {
-			panic(what)
-		}
-		e = api.Errno(w)
-	}()
-	read()
-	return api.OK
-}
 
 // reader is bytes, and how far they are read. Its methods go on from there, and end the reading where something is wrong.
 type reader struct {
@@ -52,7 +21,7 @@ func (r *reader) sections() []api.Section {
 	for r.at < len(r.b) {
 		s := r.section()
 		if s.Tag <= ahead {
-			end(api.ErrForm)
+			fail.With(api.ErrForm)
 		}
 		l = append(l, s)
 		ahead = s.Tag
@@ -67,7 +36,7 @@ func (r *reader) section() api.Section {
 	s.Body = r.body()
 	sum := crc.Sum(r.b[from:r.at])
 	if r.number(sumWidth) != uint64(sum) {
-		end(api.ErrSum)
+		fail.With(api.ErrSum)
 	}
 	return s
 }
@@ -76,7 +45,7 @@ func (r *reader) section() api.Section {
 func (r *reader) tag() byte {
 	tag := byte(r.number(tagWidth))
 	if tag == noTag {
-		end(api.ErrForm)
+		fail.With(api.ErrForm)
 	}
 	return tag
 }
@@ -85,7 +54,7 @@ func (r *reader) tag() byte {
 func (r *reader) body() []byte {
 	n := r.length()
 	body, next, e := octet.Cut(r.b, r.at, n)
-	must(e)
+	fail.If(e)
 	r.at = next
 	return body
 }
@@ -93,9 +62,9 @@ func (r *reader) body() []byte {
 // length: of a body, the next one.
 func (r *reader) length() int {
 	n, next, e := varint.Read(r.b, r.at)
-	must(e)
+	fail.If(e)
 	if n > api.MaxBody {
-		end(api.ErrLong)
+		fail.With(api.ErrLong)
 	}
 	r.at = next
 	return int(n)
@@ -104,7 +73,7 @@ func (r *reader) length() int {
 // number: the next one, of so many bytes.
 func (r *reader) number(width int) uint64 {
 	x, next, e := octet.Take(r.b, r.at, width)
-	must(e)
+	fail.If(e)
 	r.at = next
 	return x
 }
