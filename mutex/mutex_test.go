@@ -6,6 +6,7 @@ import (
 
 	"torpor/api"
 	"torpor/mutex"
+	"torpor/trial"
 )
 
 const (
@@ -116,25 +117,16 @@ func TestOtherPhases(t *testing.T) {
 	for _, state := range []int64{0, 1, 2, 4, 8, 9, 12, -1, least, most} {
 		for _, phase := range otherPhases() {
 			for _, f := range frames(phase, state) {
-				g := give(full(state))
-				o, h, a := mutex.Lock(g.o, f, 30, 20)
-				if !sameObj(o, g.was) || h != f || !sameAct(a, api.Act{}) {
-					t.Errorf("Lock of Phase %d: %v %+v %+v", phase, o, h, a)
+				for _, c := range []trial.Call{locking(30, 20), unlocking()} {
+					c.CheckRow(t, trial.Row{O: full(state), F: f, Want: trial.Answer{O: full(state), F: f}})
+					c.Check(t, full(state), f)
 				}
-				checkLock(t, full(state), f, 30, 20)
-				o, h, a = mutex.Unlock(g.o, f)
-				if !sameObj(o, g.was) || h != f || !sameAct(a, api.Act{}) {
-					t.Errorf("Unlock of Phase %d: %v %+v %+v", phase, o, h, a)
-				}
-				checkUnlock(t, full(state), f)
 			}
 		}
 	}
 	// Phase 4 is one of locking alone.
 	f := api.Frame{Op: 27, Phase: 4, Old: 12}
-	if o, h, a := mutex.Unlock(bare(13), f); o.W[0] != 13 || h != f || !sameAct(a, api.Act{}) {
-		t.Errorf("Unlock of Phase 4: %v %+v %+v", o, h, a)
-	}
+	unlocking().CheckRow(t, trial.Row{O: bare(13), F: f, Want: trial.Answer{O: bare(13), F: f}})
 }
 
 // row is a step, and its answer, written out.
@@ -148,23 +140,14 @@ type row struct {
 
 var isDone = api.Act{Done: true}
 
-// checkRows holds steps against the answers that are written out; the clock is 7, the patience 20.
-func checkRows(t *testing.T, call string, rows []row) {
+// checkRows holds steps against the answers that are written out.
+func checkRows(t *testing.T, c trial.Call, rows []row) {
 	t.Helper()
-	for i, r := range rows {
+	for _, r := range rows {
 		want := full(r.state)
 		want.W[0] = r.want
-		var x answer
-		if call == "Lock" {
-			x.o, x.f, x.a = mutex.Lock(full(r.state), r.f, 7, 20)
-			checkLock(t, full(r.state), r.f, 7, 20)
-		} else {
-			x.o, x.f, x.a = mutex.Unlock(full(r.state), r.f)
-			checkUnlock(t, full(r.state), r.f)
-		}
-		if !x.same(answer{want, r.g, r.a}) {
-			t.Errorf("%s, row %d: %+v", call, i, x)
-		}
+		c.CheckRow(t, trial.Row{O: full(r.state), F: r.f, Want: trial.Answer{O: want, F: r.g, A: r.a}})
+		c.Check(t, full(r.state), r.f)
 	}
 }
 
@@ -181,7 +164,7 @@ func TestFirstSteps(t *testing.T) {
 		row{0, next, 0, api.Frame{Op: 26, Phase: 2, Since: -1}, api.Act{}},
 		row{17, api.Frame{Phase: 1, Old: 3, Since: 4, Left: 5, Awoke: true, Starve: true, Front: true}, 17,
 			api.Frame{Phase: 2, Old: 17, Since: 4, Left: 5, Awoke: true, Starve: true, Front: true}, api.Act{}})
-	checkRows(t, "Lock", rows)
+	checkRows(t, locking(7, 20), rows)
 }
 
 // P15.1: locking of Phase 2, by answers written out: Old that isn't the state; locked or not, woken or not, starving or not; Awoke and Starve; Since, Front and Need.
@@ -239,7 +222,7 @@ func TestCome(t *testing.T) {
 		row{15, come(15, 5, true, true), 21, wait(15, 5, true, true, true), api.Act{}},
 		row{-4, come(-4, -1, false, false), 4, wait(-4, 7, false, false, false), api.Act{}},
 		row{most - 3, come(most-3, -1, false, false), least + 4, wait(most-3, 7, false, false, false), api.Act{}})
-	checkRows(t, "Lock", rows)
+	checkRows(t, locking(7, 20), rows)
 }
 
 // P15.1: locking of Phase 2: who waits from now on does so since now, whatever the clock is.
@@ -322,7 +305,7 @@ func TestWoken(t *testing.T) {
 		row{12, woken, 12, api.Frame{Op: 26, Phase: 4, Old: 12, Since: 5, Awoke: true}, api.Act{}},
 		row{2, front, 2, api.Frame{Op: 26, Phase: 2, Old: 2, Since: 5, Awoke: true, Starve: true, Front: true}, api.Act{}},
 		row{12, front, 12, api.Frame{Op: 26, Phase: 4, Old: 12, Since: 5, Starve: true, Front: true}, api.Act{}})
-	checkRows(t, "Lock", rows)
+	checkRows(t, locking(7, 20), rows)
 }
 
 // P15.1: locking of Phase 4, by answers written out: Starve or not, an Old that is 8 to 15, and others; words that are cut.
@@ -352,7 +335,7 @@ func TestHanded(t *testing.T) {
 	for _, old := range []int64{least, least + 8, least + 15, most, 1<<32 + 8, 1<<32 + 15, -1 << 32, -8, 8 << 32} {
 		rows = append(rows, row{20, hand(old, true), 13, api.Frame{}, isDone}, row{20, hand(old, false), 9, api.Frame{}, isDone})
 	}
-	checkRows(t, "Lock", rows)
+	checkRows(t, locking(7, 20), rows)
 }
 
 // P15.1: unlocking of Phase 0, by answers written out.
@@ -373,7 +356,7 @@ func TestUnlockAtOnce(t *testing.T) {
 	for _, s := range []int64{5, 7, 13, 15, 21, 805, 1<<32 + 5, -3, -1, least + 5, most} {
 		rows = append(rows, row{s, begin, s - 1, next(2, s-1), api.Act{}})
 	}
-	checkRows(t, "Unlock", rows)
+	checkRows(t, unlocking(), rows)
 }
 
 // P15.1: unlocking of Phase 1, by answers written out: none waits, somebody goes on already, the state is another one, one is to be woken.
@@ -400,7 +383,7 @@ func TestWakeOne(t *testing.T) {
 		row{8, wake(8), 2, give(8), api.Act{}}, row{16, wake(16), 10, give(16), api.Act{}}, row{800, wake(800), 794, give(800), api.Act{}},
 		row{1 << 32, wake(1 << 32), 1<<32 - 6, give(1 << 32), api.Act{}}, row{most - 7, wake(most - 7), most - 13, give(most - 7), api.Act{}},
 		row{-8, wake(-8), -14, give(-8), api.Act{}}, row{least, wake(least), most - 5, give(least), api.Act{}})
-	checkRows(t, "Unlock", rows)
+	checkRows(t, unlocking(), rows)
 }
 
 // P15.1: unlocking of Phase 2 and 3: the semaphore is given, hand to hand and not, whatever the state and the frame are.
@@ -415,7 +398,7 @@ func TestGive(t *testing.T) {
 			}
 		}
 	}
-	checkRows(t, "Unlock", rows)
+	checkRows(t, unlocking(), rows)
 }
 
 // P15.1: Locked, of all states, and objects of any kind.
@@ -435,11 +418,11 @@ func TestLocked(t *testing.T) {
 	}
 	for _, state := range states() {
 		for _, o := range objects(state) {
-			g := give(o)
-			if mutex.Locked(g.o) != bit(state, 0) {
-				t.Errorf("Locked of %d isn't %v", state, bit(state, 0))
-			}
-			g.unchanged(t, "Locked")
+			trial.Asks(t, "Locked", o, func(o api.Obj) {
+				if mutex.Locked(o) != bit(state, 0) {
+					t.Errorf("Locked of %d isn't %v", state, bit(state, 0))
+				}
+			})
 		}
 	}
 	// The other words don't count.
@@ -503,19 +486,8 @@ func TestAnswersStay(t *testing.T) {
 			got = append(got, x, y, z)
 		}
 	}
-	for k := range got {
-		clear(got[k].Notify.Waiters)
-		clear(got[k].Line)
-		_ = append(got[k].Notify.Waiters, api.Waiter{Ticket: 99})
-		_ = append(got[k].Line, api.Claim{Task: 99})
-		for j := k + 1; j < len(got); j++ {
-			rest := full(got[j].W[0])
-			if !sameObj(got[j], rest) {
-				t.Fatalf("answer %d is changed with answer %d: %v", j, k, got[j])
-			}
-		}
-	}
-	if !sameObj(o, full(9)) {
+	trial.Apart(t, "Lock and Unlock", got)
+	if !trial.SameObj(o, full(9)) {
 		t.Error("what was handed in is changed:", o)
 	}
 }
@@ -536,29 +508,16 @@ func TestNothingIsKept(t *testing.T) {
 
 // P15.1: whatever is done, no word but W[0] is changed, and nothing else of the object; a step that is done, and a fault, leave an empty frame, and a fault, and any act but one that is done, asks for nothing else.
 func TestLittleIsChanged(t *testing.T) {
-	look := func(call string, phase int, was api.Obj, x answer) {
-		rest := was
-		rest.W[0] = x.o.W[0]
-		if !sameObj(x.o, rest) {
-			t.Errorf("%s of Phase %d changes %v to %v", call, phase, was, x.o)
-		}
-		over := x.a.Done || x.a.Fault != api.NoFault
-		if over && x.f != (api.Frame{}) || !over && !sameAct(x.a, api.Act{}) {
-			t.Errorf("%s of Phase %d: %+v %+v", call, phase, x.f, x.a)
-		}
-		if x.a.Fault != api.NoFault && (!sameAct(x.a, api.Act{Fault: api.FaultUnlock}) || x.o.W[0] != was.W[0]) {
-			t.Errorf("%s of Phase %d: a fault, and %v %+v", call, phase, x.o, x.a)
-		}
-	}
 	for _, state := range states() {
 		for phase := -1; phase <= 5; phase++ {
 			for _, old := range olds(state) {
 				for _, f := range frames(phase, old) {
-					was, x := full(state), answer{}
-					x.o, x.f, x.a = mutex.Lock(was, f, 7, 20)
-					look("Lock", phase, was, x)
-					x.o, x.f, x.a = mutex.Unlock(was, f)
-					look("Unlock", phase, was, x)
+					for _, c := range []trial.Call{locking(7, 20), unlocking()} {
+						x := c.Little(t, full(state), f, 0)
+						if !x.A.Done && x.A.Fault == api.NoFault && !trial.SameAct(x.A, api.Act{}) {
+							t.Errorf("%s of Phase %d isn't done: %+v", c.Name, phase, x.A)
+						}
+					}
 				}
 			}
 		}
@@ -603,15 +562,15 @@ func TestAlone(t *testing.T) {
 	for _, o := range objects(0) {
 		for k := range int64(50) {
 			x, f, a := mutex.Lock(o, mutex.Begin(api.OpLock), k, 0)
-			if !sameAct(a, isDone) || f != (api.Frame{}) || !mutex.Locked(x) || x.W[0] != 1 {
+			if !trial.SameAct(a, isDone) || f != (api.Frame{}) || !mutex.Locked(x) || x.W[0] != 1 {
 				t.Fatal("Lock:", x, f, a)
 			}
 			y, f, a := mutex.Unlock(x, mutex.Begin(api.OpUnlock))
-			if !sameAct(a, isDone) || f != (api.Frame{}) || mutex.Locked(y) || !sameObj(y, o) {
+			if !trial.SameAct(a, isDone) || f != (api.Frame{}) || mutex.Locked(y) || !trial.SameObj(y, o) {
 				t.Fatal("Unlock:", y, f, a)
 			}
 			z, f, a := mutex.Unlock(y, mutex.Begin(api.OpUnlock))
-			if !sameAct(a, api.Act{Fault: api.FaultUnlock}) || f != (api.Frame{}) || !sameObj(z, o) {
+			if !trial.SameAct(a, api.Act{Fault: api.FaultUnlock}) || f != (api.Frame{}) || !trial.SameObj(z, o) {
 				t.Fatal("Unlock once more:", z, f, a)
 			}
 			o = z

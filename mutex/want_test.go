@@ -2,11 +2,11 @@ package mutex_test
 
 import (
 	"math/big"
-	"slices"
 	"testing"
 
 	"torpor/api"
 	"torpor/mutex"
+	"torpor/trial"
 )
 
 // cut is a number of any length, cut to 64 bits.
@@ -44,34 +44,13 @@ func down(x int64) int64 {
 	return new(big.Int).Rsh(big.NewInt(x), 3).Int64()
 }
 
-// answer is all that a step answers.
-type answer struct {
-	o api.Obj
-	f api.Frame
-	a api.Act
-}
-
-func sameObj(a, b api.Obj) bool {
-	return a.Kind == b.Kind && a.W == b.W && a.Notify.Wait == b.Notify.Wait && a.Notify.Told == b.Notify.Told &&
-		slices.Equal(a.Notify.Waiters, b.Notify.Waiters) && slices.Equal(a.Line, b.Line)
-}
-
-func sameAct(a, b api.Act) bool {
-	return a.Done == b.Done && a.Park == b.Park && a.Hand == b.Hand && a.Give == b.Give && a.Fault == b.Fault &&
-		a.Value == b.Value && slices.Equal(a.Wake, b.Wake)
-}
-
-func (x answer) same(y answer) bool {
-	return sameObj(x.o, y.o) && x.f == y.f && sameAct(x.a, y.a)
-}
-
 // wantLock is what a step of locking must answer, by the chapter's words.
-func wantLock(o api.Obj, f api.Frame, now, patience int64) answer {
+func wantLock(o api.Obj, f api.Frame, now, patience int64) trial.Answer {
 	switch f.Phase {
 	case 0:
 		if o.W[0] == 0 {
 			o.W[0] = 1
-			return answer{o: o, a: api.Act{Done: true}}
+			return trial.Answer{O: o, A: api.Act{Done: true}}
 		}
 		f.Phase = 1
 	case 1:
@@ -93,16 +72,16 @@ func wantLock(o api.Obj, f api.Frame, now, patience int64) answer {
 		if !stays {
 			o.W[0] = less(o.W[0], 4)
 		}
-		return answer{o: o, a: api.Act{Done: true}}
+		return trial.Answer{O: o, A: api.Act{Done: true}}
 	}
-	return answer{o: o, f: f}
+	return trial.Answer{O: o, F: f}
 }
 
 // wantCome is what a step of locking of Phase 2 must answer, by the chapter's words.
-func wantCome(o api.Obj, f api.Frame, now int64) answer {
+func wantCome(o api.Obj, f api.Frame, now int64) trial.Answer {
 	if o.W[0] != f.Old {
 		f.Phase = 1
-		return answer{o: o, f: f}
+		return trial.Answer{O: o, F: f}
 	}
 	w := f.Old
 	if !bit(f.Old, 2) {
@@ -119,27 +98,27 @@ func wantCome(o api.Obj, f api.Frame, now int64) answer {
 	}
 	o.W[0] = w
 	if !bit(f.Old, 0) && !bit(f.Old, 2) {
-		return answer{o: o, a: api.Act{Done: true}}
+		return trial.Answer{O: o, A: api.Act{Done: true}}
 	}
 	f.Front = f.Since >= 0
 	if f.Since < 0 {
 		f.Since = now
 	}
 	f.Need, f.Phase = 2, 3
-	return answer{o: o, f: f}
+	return trial.Answer{O: o, F: f}
 }
 
 // wantUnlock is what a step of unlocking must answer, by the chapter's words.
-func wantUnlock(o api.Obj, f api.Frame) answer {
+func wantUnlock(o api.Obj, f api.Frame) trial.Answer {
 	switch f.Phase {
 	case 0:
 		if !bit(o.W[0], 0) {
-			return answer{o: o, a: api.Act{Fault: api.FaultUnlock}}
+			return trial.Answer{O: o, A: api.Act{Fault: api.FaultUnlock}}
 		}
 		o.W[0] = less(o.W[0], 1)
 		switch {
 		case o.W[0] == 0:
-			return answer{o: o, a: api.Act{Done: true}}
+			return trial.Answer{O: o, A: api.Act{Done: true}}
 		case bit(o.W[0], 2):
 			f.Phase = 2
 		default:
@@ -149,7 +128,7 @@ func wantUnlock(o api.Obj, f api.Frame) answer {
 	case 1:
 		switch {
 		case down(f.Old) == 0, bit(f.Old, 0), bit(f.Old, 1), bit(f.Old, 2):
-			return answer{o: o, a: api.Act{Done: true}}
+			return trial.Answer{O: o, A: api.Act{Done: true}}
 		case o.W[0] != f.Old:
 			f.Old = o.W[0]
 		default:
@@ -157,77 +136,39 @@ func wantUnlock(o api.Obj, f api.Frame) answer {
 			f.Phase = 3
 		}
 	case 2:
-		return answer{o: o, a: api.Act{Done: true, Give: 2, Hand: true}}
+		return trial.Answer{O: o, A: api.Act{Done: true, Give: 2, Hand: true}}
 	case 3:
-		return answer{o: o, a: api.Act{Done: true, Give: 2}}
+		return trial.Answer{O: o, A: api.Act{Done: true, Give: 2}}
 	}
-	return answer{o: o, f: f}
+	return trial.Answer{O: o, F: f}
 }
 
-// given is an object with spare room behind its lists, and how all of it was when it was made.
-type given struct {
-	o, was  api.Obj
-	waiters []api.Waiter
-	line    []api.Claim
-}
-
-func give(o api.Obj) given {
-	waiters := append(slices.Clone(o.Notify.Waiters), api.Waiter{Ticket: 77, Task: 78}, api.Waiter{})
-	line := append(slices.Clone(o.Line), api.Claim{Task: 79, N: 80}, api.Claim{})
-	g := given{o: o, was: o, waiters: slices.Clone(waiters), line: slices.Clone(line)}
-	g.o.Notify.Waiters, g.o.Line = waiters[:len(o.Notify.Waiters)], line[:len(o.Line)]
-	g.was.Notify.Waiters, g.was.Line = slices.Clone(o.Notify.Waiters), slices.Clone(o.Line)
-	return g
-}
-
-// unchanged looks whether what was handed in is as it was, its spare room, too.
-func (g given) unchanged(t *testing.T, call string) {
-	t.Helper()
-	if !slices.Equal(g.o.Notify.Waiters[:len(g.waiters)], g.waiters) || !slices.Equal(g.o.Line[:len(g.line)], g.line) {
-		t.Errorf("%s changes what was handed in: %v", call, g.o)
+// locking is the step of locking, at a time, with a patience.
+func locking(now, patience int64) trial.Call {
+	return trial.Call{
+		Name: "Lock",
+		Step: func(o api.Obj, f api.Frame) trial.Answer { return trial.Of(mutex.Lock(o, f, now, patience)) },
+		Want: func(o api.Obj, f api.Frame) trial.Answer { return wantLock(o, f, now, patience) },
 	}
 }
 
-// apart looks whether what was handed in, and the lists of an answer, are each changed with the other ones.
-func (g given) apart(t *testing.T, call string, got api.Obj) {
-	t.Helper()
-	clear(g.o.Notify.Waiters[:len(g.waiters)])
-	clear(g.o.Line[:len(g.line)])
-	if !slices.Equal(got.Notify.Waiters, g.was.Notify.Waiters) || !slices.Equal(got.Line, g.was.Line) {
-		t.Errorf("%s: the answer is changed with what was handed in", call)
+// unlocking is the step of unlocking.
+func unlocking() trial.Call {
+	return trial.Call{
+		Name: "Unlock",
+		Step: func(o api.Obj, f api.Frame) trial.Answer { return trial.Of(mutex.Unlock(o, f)) },
+		Want: wantUnlock,
 	}
-	copy(g.o.Notify.Waiters[:len(g.waiters)], g.waiters)
-	copy(g.o.Line[:len(g.line)], g.line)
-	clear(got.Notify.Waiters)
-	clear(got.Line)
-	// An answer's spare room is its own, too.
-	_ = append(got.Notify.Waiters, api.Waiter{Ticket: 97, Task: 97})
-	_ = append(got.Line, api.Claim{Task: 97, N: 97})
-	g.unchanged(t, call+"'s answer, when it is written to,")
-}
-
-// check holds an answer against the one that must be.
-func (g given) check(t *testing.T, call string, f api.Frame, got, want answer) {
-	t.Helper()
-	if !got.same(want) {
-		t.Errorf("%s of %v with %+v: %v %+v %+v, not %v %+v %+v", call, g.was, f, got.o, got.f, got.a, want.o, want.f, want.a)
-	}
-	g.unchanged(t, call)
-	g.apart(t, call, got.o)
 }
 
 // checkLock holds a step of locking against the chapter's words.
 func checkLock(t *testing.T, o api.Obj, f api.Frame, now, patience int64) {
 	t.Helper()
-	g := give(o)
-	x, h, a := mutex.Lock(g.o, f, now, patience)
-	g.check(t, "Lock", f, answer{x, h, a}, wantLock(g.was, f, now, patience))
+	locking(now, patience).Check(t, o, f)
 }
 
 // checkUnlock holds a step of unlocking against the chapter's words.
 func checkUnlock(t *testing.T, o api.Obj, f api.Frame) {
 	t.Helper()
-	g := give(o)
-	x, h, a := mutex.Unlock(g.o, f)
-	g.check(t, "Unlock", f, answer{x, h, a}, wantUnlock(g.was, f))
+	unlocking().Check(t, o, f)
 }
