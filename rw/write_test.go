@@ -1,0 +1,298 @@
+package rw_test
+
+import (
+	"testing"
+
+	"torpor/api"
+	"torpor/mutex"
+	"torpor/rw"
+	"torpor/trial"
+)
+
+// states are states of the mutex, W[0]: locked or not, woken, starving, and how many wait.
+func states() []int64 {
+	l := []int64{least, least + 1, least + 4, most, most - 1, -1, -8, -7}
+	for _, n := range []int64{0, 1, 2, 12, 1 << 29} {
+		for bits := range int64(8) {
+			l = append(l, n*8+bits)
+		}
+	}
+	return l
+}
+
+// P16.1: WLock's stage 0 and WUnlock's stage 2, by each Phase of layer 15's steps, with the clock and the patience at their edges.
+func TestMutexSteps(t *testing.T) {
+	moments := []int64{least, -1, 0, 1, 20, most}
+	for _, state := range states() {
+		o := full(1, 1)
+		o.W[0] = state
+		for phase := -1; phase <= 5; phase++ {
+			for _, old := range []int64{state, state ^ 1, state + 8, 8, 12, 0} {
+				for k, since := range moments {
+					f := api.Frame{Op: 30, Phase: phase, Old: old, Since: since, Left: 3, Awoke: k%2 == 0, Starve: k%3 == 0}
+					for _, x := range moments {
+						writing(x, 20).Check(t, o, f)
+						writing(7, x).Check(t, o, f)
+					}
+					f.Stage = 2
+					ending().Check(t, o, f)
+				}
+			}
+		}
+	}
+}
+
+// words are those of a lock whose mutex's state is told; the others are to stay as they are.
+func words(state int64) [6]int64 {
+	return [6]int64{state, -3, least, most, -5, 12}
+}
+
+// P16.1: WLock's stage 0, by answers written out: each Phase; what its being done makes of the frame; the clock is 7, the patience 20.
+func TestLockWriters(t *testing.T) {
+	next := func(op int) api.Frame {
+		return api.Frame{Op: op, Stage: 1, Since: -1}
+	}
+	frame := func(phase int, old, since int64) api.Frame {
+		return api.Frame{Op: 30, Phase: phase, Old: old, Since: since}
+	}
+	waits := api.Frame{Op: 30, Phase: 3, Old: 1, Since: 7, Need: 2}
+	front := api.Frame{Op: 30, Phase: 3, Old: 9, Since: 3, Need: 2, Front: true}
+	got, starved := frame(3, 1, 5), frame(3, 1, -14)
+	come, handed := frame(2, 2, 5), frame(4, 12, -14)
+	come.Awoke = true
+	handed.Starve = true
+	oddBegin, oddLook, oddCome, oddWaits := odd(0), odd(0), odd(0), odd(0)
+	oddBegin.Phase, oddLook.Phase, oddCome.Phase, oddWaits.Phase = 0, 1, 2, 3
+	rows := []step{
+		{words(0), mutex.Begin(30), words(1), next(30), api.Act{}}, {words(0), api.Frame{}, words(1), next(0), api.Act{}},
+		{words(0), oddBegin, words(1), next(-9), api.Act{}}, {words(1), oddBegin, words(1), oddLook, api.Act{}},
+		{words(1), mutex.Begin(30), words(1), frame(1, 0, -1), api.Act{}}, {words(8), mutex.Begin(30), words(8), frame(1, 0, -1), api.Act{}},
+		{words(9), frame(1, 3, -1), words(9), frame(2, 9, -1), api.Act{}}, {words(0), frame(1, 3, -1), words(0), frame(2, 0, -1), api.Act{}},
+		{words(9), frame(2, 1, -1), words(9), frame(1, 1, -1), api.Act{}},
+		{words(1), frame(2, 1, -1), words(9), waits, api.Act{}}, {words(9), frame(2, 9, 3), words(17), front, api.Act{}},
+		{words(0), frame(2, 0, -1), words(1), next(30), api.Act{}}, {words(10), frame(2, 10, 3), words(11), next(30), api.Act{}},
+		{words(6), oddCome, words(12), oddWaits, api.Act{}},
+		{words(2), got, words(2), come, api.Act{}}, {words(12), starved, words(12), handed, api.Act{}},
+		{words(12), handed, words(1), next(30), api.Act{}}, {words(20), frame(4, 20, 5), words(9), next(30), api.Act{}},
+		{words(0), frame(5, 1, 2), words(0), frame(5, 1, 2), api.Act{}}, {words(0), frame(-1, 1, 2), words(0), frame(-1, 1, 2), api.Act{}},
+	}
+	for _, op := range []int{0, 26, 31, 41, 99, -1} {
+		rows = append(rows, step{words(0), mutex.Begin(op), words(1), next(op), api.Act{}})
+	}
+	checkRows(t, writing(7, 20), rows)
+}
+
+// P16.1: WLock's stage 0 leans on the clock and the patience that it is given.
+func TestClock(t *testing.T) {
+	f := api.Frame{Op: 30, Phase: 2, Old: 1, Since: -1}
+	for _, now := range []int64{0, 5, most, least} {
+		if _, g, _ := rw.WLock(api.Obj{W: words(1)}, f, now, 20); g.Since != now {
+			t.Errorf("who comes at %d waits since %d", now, g.Since)
+		}
+	}
+	f = api.Frame{Op: 30, Phase: 3, Since: 10}
+	for _, k := range []struct {
+		now, patience int64
+		starves       bool
+	}{{29, 20, false}, {30, 20, false}, {31, 20, true}, {31, 21, false}, {10, 0, false}, {10, -1, true}} {
+		if _, g, _ := rw.WLock(api.Obj{W: words(1)}, f, k.now, k.patience); g.Starve != k.starves {
+			t.Errorf("since 10, at %d, patience %d: %v", k.now, k.patience, g.Starve)
+		}
+	}
+}
+
+// P16.1: WLock's stage 1, by answers written out: W[4] that was 0, above, and below.
+func TestComeToWrite(t *testing.T) {
+	begin := api.Frame{Op: 30, Stage: 1, Since: -1}
+	waits := func(f api.Frame, left int64) api.Frame {
+		f.Stage, f.Left = 2, left
+		return f
+	}
+	var rows []step
+	for _, f := range []api.Frame{begin, odd(1), {Stage: 1}} {
+		rows = append(rows, step{counting(0), f, counting(-Max), api.Frame{}, api.Act{Done: true}})
+		for _, n := range []int64{1, 2, 100, Max - 1, Max, Max + 1, 1 << 32, most, -1, -2, 1 - Max, -Max, -Max - 1, -1 << 32, least + Max, least + Max + 1} {
+			rows = append(rows, step{counting(n), f, counting(n - Max), waits(f, n), api.Act{}})
+		}
+		// Less than the least word comes round.
+		rows = append(rows,
+			step{counting(least), f, counting(most - Max + 1), waits(f, least), api.Act{}},
+			step{counting(least + 1), f, counting(most - Max + 2), waits(f, least+1), api.Act{}},
+			step{counting(least + Max - 1), f, counting(most), waits(f, least+Max-1), api.Act{}})
+	}
+	checkRows(t, writing(7, 20), rows)
+}
+
+// P16.1: WLock's stages 2 and 3, by answers written out: W[5] and Left that make 0, and that don't.
+func TestWaitForReaders(t *testing.T) {
+	frame := func(stage int, left int64) api.Frame {
+		return api.Frame{Op: 30, Stage: stage, Since: -1, Left: left}
+	}
+	with := func(waits int64) [6]int64 {
+		return [6]int64{9, -3, least, most, -5, waits}
+	}
+	needs := func(f api.Frame) api.Frame {
+		f.Stage, f.Need = 3, 3
+		return f
+	}
+	var rows []step
+	for _, k := range []struct{ waits, left int64 }{{0, 0}, {-1, 1}, {1, -1}, {-3, 3}, {-12, 12}, {-Max, Max}, {1 << 32, -1 << 32}, {-most, most}, {least, least}} {
+		rows = append(rows, step{with(k.waits), frame(2, k.left), with(0), api.Frame{}, api.Act{Done: true}})
+	}
+	for _, k := range []struct{ waits, left, sum int64 }{
+		{0, 1, 1}, {0, 2, 2}, {0, -1, -1}, {-1, 2, 1}, {-2, 1, -1}, {-1, 3, 2}, {1, 1, 2}, {5, 0, 5}, {-5, 0, -5}, {0, Max, Max}, {1, -2, -1},
+		{-1 << 31, 1 << 32, 1 << 31}, {0, 1 << 32, 1 << 32}, {0, most, most}, {0, least, least}, {1, most, least}, {most, most, -2}, {-1, least, most}, {least, 1, least + 1},
+	} {
+		rest := odd(2)
+		rest.Left = k.left
+		for _, f := range []api.Frame{frame(2, k.left), rest} {
+			rows = append(rows, step{with(k.waits), f, with(k.sum), needs(f), api.Act{}})
+		}
+	}
+	for _, left := range few() {
+		for _, f := range frames(3, left) {
+			rows = append(rows, step{with(left), f, with(left), api.Frame{}, api.Act{Done: true}}, step{with(0), f, with(0), api.Frame{}, api.Act{Done: true}})
+		}
+	}
+	checkRows(t, writing(7, 20), rows)
+}
+
+// P16.1: WUnlock's stage 0, by answers written out: W[4] that is below 0, and that isn't: the fault, which changes nothing.
+func TestEndWriting(t *testing.T) {
+	begin := mutex.Begin(api.OpWUnlock)
+	next := func(f api.Frame, left int64) api.Frame {
+		f.Stage, f.Left = 1, left
+		return f
+	}
+	var rows []step
+	for _, f := range []api.Frame{begin, odd(0), {}} {
+		for _, n := range []int64{0, 1, 2, Max - 1, Max, Max + 1, 1 << 32, most - 1, most} {
+			rows = append(rows, step{counting(n), f, counting(n), api.Frame{}, api.Act{Fault: api.FaultUnlock}})
+		}
+		for _, n := range []int64{-Max, 1 - Max, 2 - Max, 12 - Max, -1, -2, -Max - 1, -2 * Max, -1 << 32, least, least + 1} {
+			rows = append(rows, step{counting(n), f, counting(n + Max), next(f, n+Max), api.Act{}})
+		}
+	}
+	checkRows(t, ending(), rows)
+}
+
+// P16.1: WUnlock's stage 1, by answers written out: Left below 0, 0, 1 and many.
+func TestLetReadersIn(t *testing.T) {
+	var rows []step
+	for _, w := range [][6]int64{{}, {9, -3, least, most, 2, 12}, {4: -Max}} {
+		for _, left := range []int64{1, 2, 3, 12, Max, 1 << 32, most} {
+			for _, f := range frames(1, left) {
+				g := f
+				g.Left = left - 1
+				rows = append(rows, step{w, f, w, g, api.Act{Give: 4}})
+			}
+		}
+		for _, left := range []int64{0, -1, -2, -Max, -1 << 32, least} {
+			for _, f := range frames(1, left) {
+				g := f
+				g.Stage, g.Phase = 2, 0
+				rows = append(rows, step{w, f, w, g, api.Act{}})
+			}
+		}
+	}
+	checkRows(t, ending(), rows)
+}
+
+// P16.1: WUnlock's stage 2, by answers written out: each Phase, its fault, and what it gives.
+func TestUnlockWriters(t *testing.T) {
+	frame := func(phase int, old int64) api.Frame {
+		return api.Frame{Op: 31, Stage: 2, Phase: phase, Old: old, Since: -1}
+	}
+	var rows []step
+	for _, s := range []int64{0, 2, 4, 8, 12, -2, least} {
+		rows = append(rows, step{words(s), frame(0, 0), words(s), api.Frame{}, api.Act{Fault: api.FaultUnlock}})
+	}
+	rows = append(rows,
+		step{words(1), frame(0, 0), words(0), api.Frame{}, api.Act{Done: true}},
+		step{words(9), frame(0, 0), words(8), frame(1, 8), api.Act{}}, step{words(13), frame(0, 0), words(12), frame(2, 12), api.Act{}},
+		step{words(9), frame(1, 8), words(9), frame(1, 9), api.Act{}}, step{words(8), frame(1, 8), words(2), frame(3, 8), api.Act{}},
+		step{words(9), frame(1, 9), words(9), api.Frame{}, api.Act{Done: true}}, step{words(2), frame(1, 2), words(2), api.Frame{}, api.Act{Done: true}},
+		step{words(12), frame(2, 12), words(12), api.Frame{}, api.Act{Done: true, Give: 2, Hand: true}},
+		step{words(2), frame(3, 8), words(2), api.Frame{}, api.Act{Done: true, Give: 2}},
+		step{words(1), frame(4, 8), words(1), frame(4, 8), api.Act{}}, step{words(1), frame(-1, 8), words(1), frame(-1, 8), api.Act{}})
+	checkRows(t, ending(), rows)
+}
+
+// P16.1: who ends writing lets in just as many readers as are there, each by a Give 4, and then unlocks.
+func TestGives(t *testing.T) {
+	for _, n := range []int64{0, 1, 2, 3, 12, 1000} {
+		o, f, a := rw.WUnlock(api.Obj{W: [6]int64{0: 1, 4: n - Max}}, mutex.Begin(api.OpWUnlock))
+		gives, steps := int64(0), 1
+		for !a.Done && a.Fault == api.NoFault && steps < 2000 {
+			if o, f, a = rw.WUnlock(o, f); a.Give == 4 {
+				gives++
+			}
+			steps++
+		}
+		if gives != n || int64(steps) != n+3 || !a.Done || f != (api.Frame{}) || o.W != [6]int64{4: n} {
+			t.Errorf("%d readers wait: %d are let in by %d steps; %v %+v %+v", n, gives, steps, o, f, a)
+		}
+	}
+}
+
+// P16.2: while nobody writes readers come by a step each, and go by one, as many as there are.
+func TestReadersAlone(t *testing.T) {
+	for _, o := range objects([6]int64{}) {
+		first := o
+		for _, n := range []int64{1, 2, 3, 1000, 1} {
+			for k := range n {
+				x, f, a := rw.RLock(o, mutex.Begin(api.OpRLock))
+				here, writer := rw.Readers(x)
+				if !trial.SameAct(a, api.Act{Done: true}) || f != (api.Frame{}) || here != k+1 || writer {
+					t.Fatal("RLock:", x, f, a)
+				}
+				o = x
+			}
+			for k := range n {
+				x, f, a := rw.RUnlock(o, mutex.Begin(api.OpRUnlock))
+				here, writer := rw.Readers(x)
+				if !trial.SameAct(a, api.Act{Done: true}) || f != (api.Frame{}) || here != n-1-k || writer {
+					t.Fatal("RUnlock:", x, f, a)
+				}
+				o = x
+			}
+			if !trial.SameObj(o, first) {
+				t.Fatal("all have gone:", o)
+			}
+		}
+	}
+}
+
+// P16.2: a writer that finds nobody is in by two steps, and out by three, as often as it likes; meanwhile who would read waits.
+func TestWriterAlone(t *testing.T) {
+	for _, o := range objects([6]int64{}) {
+		first := o
+		for k := range int64(20) {
+			f, a := mutex.Begin(api.OpWLock), api.Act{}
+			for n := range 2 {
+				if o, f, a = rw.WLock(o, f, k, 0); a.Done != (n == 1) || !trial.SameAct(a, api.Act{Done: n == 1}) {
+					t.Fatal("WLock, step", n, o, f, a)
+				}
+			}
+			if n, writer := rw.Readers(o); n != 0 || !writer || f != (api.Frame{}) {
+				t.Fatal("behind WLock:", o, f)
+			}
+			if _, g, b := rw.RLock(o, mutex.Begin(api.OpRLock)); b.Done || g.Need != 4 {
+				t.Fatal("RLock while one writes:", g, b)
+			}
+			f = mutex.Begin(api.OpWUnlock)
+			for n := range 3 {
+				if o, f, a = rw.WUnlock(o, f); !trial.SameAct(a, api.Act{Done: n == 2}) {
+					t.Fatal("WUnlock, step", n, o, f, a)
+				}
+			}
+			if !trial.SameObj(o, first) || f != (api.Frame{}) {
+				t.Fatal("behind WUnlock:", o, f)
+			}
+			// Once more is a fault, of both.
+			for _, c := range []trial.Call{leaving(), ending()} {
+				c.CheckRow(t, trial.Row{O: o, F: mutex.Begin(api.OpWUnlock), Want: trial.Answer{O: o, A: api.Act{Fault: api.FaultUnlock}}})
+			}
+		}
+	}
+}
