@@ -21,18 +21,17 @@ func bare(state int64) api.Obj {
 
 // full is an object of another kind, all of whose words and lists hold something, of that state.
 func full(state int64) api.Obj {
-	return api.Obj{
-		Kind:   api.KindCond,
-		W:      [6]int64{state, 3, least, most, -1, 9},
-		Notify: api.Notify{Wait: 7, Told: 5, Waiters: []api.Waiter{{Ticket: 6, Task: 1}, {Ticket: 5, Task: 2}}},
-		Line:   []api.Claim{{Task: 3, N: 8}, {Task: -4, N: least}},
-	}
+	return trial.Full(words(state))
 }
 
-// objects are objects of that state: a mutex, one of another kind, ones that may not be.
+// words are those of that state; the others are to stay as they are.
+func words(state int64) [6]int64 {
+	return [6]int64{state, 3, least, most, -1, 9}
+}
+
+// objects are objects of that state: mutexes, one of another kind, one that may not be.
 func objects(state int64) []api.Obj {
-	odd := api.Obj{Kind: -1, W: [6]int64{state, -1}, Notify: api.Notify{Waiters: []api.Waiter{}}, Line: []api.Claim{}}
-	return []api.Obj{bare(state), full(state), odd}
+	return append(trial.Objects(api.KindMutex, words(state)), bare(state))
 }
 
 // counts are how many wait: none, one, many, as many as a state can tell, and numbers below 0.
@@ -75,11 +74,6 @@ func frames(phase int, old int64) []api.Frame {
 	return l
 }
 
-// otherPhases are phases of neither locking nor unlocking.
-func otherPhases() []int {
-	return []int{-1, -2, -4, 5, 6, 7, 8, 100, 1 << 32, -1 << 32, 1<<32 + 2, math.MinInt, math.MaxInt}
-}
-
 // P15.1: each step of locking and of unlocking, of all states, with an Old that is the state and ones that aren't, and all frames.
 func TestEachStep(t *testing.T) {
 	for _, state := range states() {
@@ -115,18 +109,17 @@ func TestAnyObject(t *testing.T) {
 // P15.1: of any other Phase nothing is done, and the act is empty.
 func TestOtherPhases(t *testing.T) {
 	for _, state := range []int64{0, 1, 2, 4, 8, 9, 12, -1, least, most} {
-		for _, phase := range otherPhases() {
+		for _, phase := range trial.Others(5) {
 			for _, f := range frames(phase, state) {
 				for _, c := range []trial.Call{locking(30, 20), unlocking()} {
-					c.CheckRow(t, trial.Row{O: full(state), F: f, Want: trial.Answer{O: full(state), F: f}})
-					c.Check(t, full(state), f)
+					c.CheckNothing(t, api.KindMutex, words(state), f)
 				}
 			}
 		}
 	}
 	// Phase 4 is one of locking alone.
 	f := api.Frame{Op: 27, Phase: 4, Old: 12}
-	unlocking().CheckRow(t, trial.Row{O: bare(13), F: f, Want: trial.Answer{O: bare(13), F: f}})
+	unlocking().CheckNothing(t, api.KindMutex, words(13), f)
 }
 
 // row is a step, and its answer, written out.
@@ -144,10 +137,7 @@ var isDone = api.Act{Done: true}
 func checkRows(t *testing.T, c trial.Call, rows []row) {
 	t.Helper()
 	for _, r := range rows {
-		want := full(r.state)
-		want.W[0] = r.want
-		c.CheckRow(t, trial.Row{O: full(r.state), F: r.f, Want: trial.Answer{O: want, F: r.g, A: r.a}})
-		c.Check(t, full(r.state), r.f)
+		c.CheckWords(t, api.KindMutex, words(r.state), r.f, words(r.want), r.g, r.a)
 	}
 }
 

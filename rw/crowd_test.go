@@ -72,15 +72,11 @@ func rules() trial.Rules[crowd] {
 
 // step is a step of a task that is ready.
 func (c *crowd) step(t trial.T, i int, m trial.Met) {
-	w := &c.Tasks[i]
-	if w.Frame.Need != 0 {
-		c.Acquire(i, m)
+	f, ok := c.Going(i, c.begin(i), m)
+	if !ok {
 		return
 	}
-	if w.Frame == (api.Frame{}) {
-		w.Frame = c.begin(i)
-	}
-	o, f, x := api.Obj{W: c.W}, w.Frame, trial.Answer{}
+	o, x := api.Obj{W: c.W}, trial.Answer{}
 	switch f.Op {
 	case api.OpRLock:
 		x = trial.Of(rw.RLock(o, f))
@@ -99,16 +95,13 @@ func (c *crowd) step(t trial.T, i int, m trial.Met) {
 	if x.A.Fault != api.NoFault || x.A.Park || x.A.Hand && x.A.Give != 2 {
 		t.Fatalf("task %d: %+v", i, x.A)
 	}
-	c.W, w.Frame = x.O.W, x.F
+	c.Made(i, x, m)
 	if c.W[5] < 0 {
 		m["left before the writer waits"]++
 	}
-	if x.A.Give != 0 {
-		m["gives "+strconv.Itoa(x.A.Give)]++
-		c.Give(x.A, m)
-	}
+	m["gives "+strconv.Itoa(x.A.Give)]++
 	if x.A.Done && c.where[i] == away {
-		w.Rounds--
+		c.Tasks[i].Rounds--
 		c.plans[i] >>= 1
 	}
 }

@@ -15,23 +15,14 @@ const (
 	most  = math.MaxInt64
 )
 
-// objects are objects of those words: a lock of readers and writers, one of another kind whose lists hold something, one that may not be.
+// objects are objects of those words: a lock of readers and writers, and others.
 func objects(w [6]int64) []api.Obj {
-	return []api.Obj{
-		{Kind: api.KindRW, W: w},
-		{
-			Kind:   api.KindCond,
-			W:      w,
-			Notify: api.Notify{Wait: 7, Told: 5, Waiters: []api.Waiter{{Ticket: 6, Task: 1}, {Ticket: 5, Task: 2}}},
-			Line:   []api.Claim{{Task: 3, N: 8}, {Task: -4, N: least}},
-		},
-		{Kind: -1, W: w, Notify: api.Notify{Told: 9, Waiters: []api.Waiter{}}, Line: []api.Claim{}},
-	}
+	return trial.Objects(api.KindRW, w)
 }
 
 // full is an object of another kind, all of whose words and lists hold something, with that count, and that many for whom the writer waits.
 func full(count, waits int64) api.Obj {
-	return objects([6]int64{9, -3, least, most, count, waits})[1]
+	return trial.Full([6]int64{9, -3, least, most, count, waits})
 }
 
 // counts are a count's edges: 0, Max and what is near them, above and below, and the least and the greatest words.
@@ -48,18 +39,9 @@ func few() []int64 {
 	return []int64{0, 1, -1, 2, -2, 3, -3, 12, Max, -Max, 1 << 32, -1 << 32, most, most - 1, least, least + 1}
 }
 
-// frames are frames of a stage, with that Left: what a step of rw doesn't look at is once empty and once full.
+// frames are frames of a stage, with that Left.
 func frames(stage int, left int64) []api.Frame {
-	return []api.Frame{
-		{Stage: stage, Left: left},
-		{Op: api.OpWLock, Stage: stage, Since: -1, Left: left},
-		{Op: -7, Stage: stage, Phase: 3, Old: least, Since: most, Left: left, Awoke: true, Starve: true, Need: 5, Front: true},
-	}
-}
-
-// odd is a frame of a stage, all of which holds something.
-func odd(stage int) api.Frame {
-	return api.Frame{Op: -9, Stage: stage, Phase: 5, Old: 6, Since: 4, Left: 8, Awoke: true, Starve: true, Need: 2, Front: true}
+	return trial.Frames(api.OpWLock, stage, left)
 }
 
 // at is a frame, but of that stage.
@@ -71,11 +53,6 @@ func at(f api.Frame, stage int) api.Frame {
 // counting are words with that count; the others are to stay as they are.
 func counting(count int64) [6]int64 {
 	return [6]int64{9, -3, least, most, count, 12}
-}
-
-// otherStages are stages of none of the calls.
-func otherStages() []int {
-	return []int{-1, -2, -3, -4, 4, 5, 8, 100, 1 << 32, -1 << 32, 1<<32 + 1, 1<<32 + 2, math.MinInt, math.MaxInt, math.MinInt + 1}
 }
 
 // P16.1: each step of each call, of all counts, all W[5] and all Left at the edges, and where W[5] and Left make 0.
@@ -115,27 +92,21 @@ func TestAnyObject(t *testing.T) {
 
 // P16.1: of any other Stage nothing is done, and the act is empty.
 func TestOtherStages(t *testing.T) {
-	nothing := func(c trial.Call, o api.Obj, f api.Frame) {
-		t.Helper()
-		c.CheckRow(t, trial.Row{O: o, F: f, Want: trial.Answer{O: o, F: f}})
-	}
 	for _, w := range [][6]int64{{}, {1}, {0, 1, 1, 1, 1, 1}, {9, 1, 1, 1, -Max, 0}, {4: 1 - Max, 5: 1}, {4: -1}, {least, least, least, least, least, least}} {
-		for _, o := range objects(w) {
-			for _, stage := range otherStages() {
-				for _, f := range append(frames(stage, 0), frames(stage, 1)...) {
-					for _, c := range calls() {
-						nothing(c, o, f)
-					}
+		for _, stage := range trial.Others(4) {
+			for _, f := range append(frames(stage, 0), frames(stage, 1)...) {
+				for _, c := range calls() {
+					c.CheckNothing(t, api.KindRW, w, f)
 				}
 			}
-			// These are stages of other calls alone.
-			for _, f := range append(frames(2, 1), frames(3, 1)...) {
-				nothing(reading(), o, f)
-			}
-			for _, f := range append(frames(3, 0), frames(3, 1)...) {
-				nothing(leaving(), o, f)
-				nothing(ending(), o, f)
-			}
+		}
+		// These are stages of other calls alone.
+		for _, f := range append(frames(2, 1), frames(3, 1)...) {
+			reading().CheckNothing(t, api.KindRW, w, f)
+		}
+		for _, f := range append(frames(3, 0), frames(3, 1)...) {
+			leaving().CheckNothing(t, api.KindRW, w, f)
+			ending().CheckNothing(t, api.KindRW, w, f)
 		}
 	}
 }
@@ -143,16 +114,16 @@ func TestOtherStages(t *testing.T) {
 // P16.1: reading, by answers written out: W[4] that is below 0 behind the step, 0, and above.
 func TestRead(t *testing.T) {
 	begin := mutex.Begin(api.OpRLock)
-	in, oddIn := api.Frame{Op: 28, Stage: 1, Since: -1, Need: 4}, odd(1)
+	in, oddIn := api.Frame{Op: 28, Stage: 1, Since: -1, Need: 4}, trial.Odd(1)
 	oddIn.Need = 4
 	var rows []step
 	for _, n := range []int64{-1, 0, 1, 2, 100, Max - 2, Max - 1, Max, Max + 1, 1 << 32, most - 1} {
-		for _, f := range []api.Frame{begin, odd(0), {}} {
+		for _, f := range []api.Frame{begin, trial.Odd(0), {}} {
 			rows = append(rows, step{counting(n), f, counting(n + 1), api.Frame{}, api.Act{Done: true}})
 		}
 	}
 	for _, n := range []int64{-2, -3, 1 - Max, 2 - Max, -Max, -Max - 1, -Max - 2, -1 << 32, least, least + 1} {
-		rows = append(rows, step{counting(n), begin, counting(n + 1), in, api.Act{}}, step{counting(n), odd(0), counting(n + 1), oddIn, api.Act{}})
+		rows = append(rows, step{counting(n), begin, counting(n + 1), in, api.Act{}}, step{counting(n), trial.Odd(0), counting(n + 1), oddIn, api.Act{}})
 	}
 	// One more than the greatest word is the least one.
 	rows = append(rows, step{counting(most), begin, counting(least), in, api.Act{}})
@@ -170,7 +141,7 @@ func TestRead(t *testing.T) {
 func TestLeave(t *testing.T) {
 	begin := mutex.Begin(api.OpRUnlock)
 	var rows []step
-	for _, f := range []api.Frame{begin, odd(0), {}} {
+	for _, f := range []api.Frame{begin, trial.Odd(0), {}} {
 		for _, n := range []int64{0, -Max} {
 			rows = append(rows, step{counting(n), f, counting(n), api.Frame{}, api.Act{Fault: api.FaultUnlock}})
 		}
@@ -189,7 +160,7 @@ func TestLeave(t *testing.T) {
 // P16.1: reading no more, by answers written out: W[5] that is 0 behind the step, and that isn't; the semaphore that is given.
 func TestLeaveWaitedFor(t *testing.T) {
 	var rows []step
-	for _, f := range []api.Frame{mutex.Begin(api.OpRUnlock), odd(0), {}} {
+	for _, f := range []api.Frame{mutex.Begin(api.OpRUnlock), trial.Odd(0), {}} {
 		for _, count := range []int64{0, 1, -1, -Max, 1 - Max, least, most} {
 			with := func(waits int64) [6]int64 {
 				return [6]int64{9, -3, least, most, count, waits}

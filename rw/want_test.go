@@ -169,15 +169,10 @@ type step struct {
 	a    api.Act
 }
 
-// checkRows holds steps against the answers that are written out, of locks alone, and of objects that hold more.
+// checkRows holds steps against the answers that are written out, of locks, and of objects that hold more.
 func checkRows(t *testing.T, c trial.Call, rows []step) {
 	t.Helper()
 	for _, r := range rows {
-		for _, o := range objects(r.w) {
-			want := o
-			want.W = r.want
-			c.CheckRow(t, trial.Row{O: o, F: r.f, Want: trial.Answer{O: want, F: r.g, A: r.a}})
-			c.Check(t, o, r.f)
-		}
+		c.CheckWords(t, api.KindRW, r.w, r.f, r.want, r.g, r.a)
 	}
 }

@@ -61,7 +61,7 @@ func TestLockWriters(t *testing.T) {
 	come, handed := frame(2, 2, 5), frame(4, 12, -14)
 	come.Awoke = true
 	handed.Starve = true
-	oddBegin, oddLook, oddCome, oddWaits := odd(0), odd(0), odd(0), odd(0)
+	oddBegin, oddLook, oddCome, oddWaits := trial.Odd(0), trial.Odd(0), trial.Odd(0), trial.Odd(0)
 	oddBegin.Phase, oddLook.Phase, oddCome.Phase, oddWaits.Phase = 0, 1, 2, 3
 	rows := []step{
 		{words(0), mutex.Begin(30), words(1), next(30), api.Act{}}, {words(0), api.Frame{}, words(1), next(0), api.Act{}},
@@ -109,7 +109,7 @@ func TestComeToWrite(t *testing.T) {
 		return f
 	}
 	var rows []step
-	for _, f := range []api.Frame{begin, odd(1), {Stage: 1}} {
+	for _, f := range []api.Frame{begin, trial.Odd(1), {Stage: 1}} {
 		rows = append(rows, step{counting(0), f, counting(-Max), api.Frame{}, api.Act{Done: true}})
 		for _, n := range []int64{1, 2, 100, Max - 1, Max, Max + 1, 1 << 32, most, -1, -2, 1 - Max, -Max, -Max - 1, -1 << 32, least + Max, least + Max + 1} {
 			rows = append(rows, step{counting(n), f, counting(n - Max), waits(f, n), api.Act{}})
@@ -143,7 +143,7 @@ func TestWaitForReaders(t *testing.T) {
 		{0, 1, 1}, {0, 2, 2}, {0, -1, -1}, {-1, 2, 1}, {-2, 1, -1}, {-1, 3, 2}, {1, 1, 2}, {5, 0, 5}, {-5, 0, -5}, {0, Max, Max}, {1, -2, -1},
 		{-1 << 31, 1 << 32, 1 << 31}, {0, 1 << 32, 1 << 32}, {0, most, most}, {0, least, least}, {1, most, least}, {most, most, -2}, {-1, least, most}, {least, 1, least + 1},
 	} {
-		rest := odd(2)
+		rest := trial.Odd(2)
 		rest.Left = k.left
 		for _, f := range []api.Frame{frame(2, k.left), rest} {
 			rows = append(rows, step{with(k.waits), f, with(k.sum), needs(f), api.Act{}})
@@ -165,7 +165,7 @@ func TestEndWriting(t *testing.T) {
 		return f
 	}
 	var rows []step
-	for _, f := range []api.Frame{begin, odd(0), {}} {
+	for _, f := range []api.Frame{begin, trial.Odd(0), {}} {
 		for _, n := range []int64{0, 1, 2, Max - 1, Max, Max + 1, 1 << 32, most - 1, most} {
 			rows = append(rows, step{counting(n), f, counting(n), api.Frame{}, api.Act{Fault: api.FaultUnlock}})
 		}

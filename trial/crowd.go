@@ -71,6 +71,27 @@ func (c *Crowd) Waiting(place int) int {
 	return int(c.rows[place].n)
 }
 
+// Going is how far a task is that makes a step: with the frame that it has, or, if that is empty, with the one with which it begins. Where it needs a semaphore it makes none, but gets that, or is parked.
+func (c *Crowd) Going(i int, begin api.Frame, m Met) (api.Frame, bool) {
+	f := c.Tasks[i].Frame
+	if f.Need != 0 {
+		c.Acquire(i, m)
+		return api.Frame{}, false
+	}
+	if f == (api.Frame{}) {
+		return begin, true
+	}
+	return f, true
+}
+
+// Made is what comes of a task's step: the words, its frame, and what is given.
+func (c *Crowd) Made(i int, x Answer, m Met) {
+	c.W, c.Tasks[i].Frame = x.O.W, x.F
+	if x.A.Give != 0 {
+		c.Give(x.A, m)
+	}
+}
+
 // Acquire: a task gets the semaphore that it needs, or is parked.
 func (c *Crowd) Acquire(i int, m Met) {
 	w := &c.Tasks[i]

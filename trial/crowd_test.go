@@ -64,6 +64,50 @@ func TestHand(t *testing.T) {
 	}
 }
 
+// P16.2: who needs a semaphore makes no step till it has got it; else one goes on from the frame that it has, or begins.
+func TestGoing(t *testing.T) {
+	m := trial.Met{}
+	c := trial.NewCrowd(3, 1)
+	c.W[3] = 1
+	begin, later := api.Frame{Op: 5, Since: -1}, api.Frame{Op: 6, Stage: 1}
+	c.Tasks[1].Frame = later
+	for i, want := range []api.Frame{begin, later, begin} {
+		if f, ok := c.Going(i, begin, m); f != want || !ok {
+			t.Errorf("task %d: %+v %v", i, f, ok)
+		}
+	}
+	for i := range 2 {
+		c.Tasks[i].Frame = need(3, false)
+		if f, ok := c.Going(i, begin, m); f != (api.Frame{}) || ok {
+			t.Errorf("task %d needs a semaphore: %+v %v", i, f, ok)
+		}
+	}
+	if !c.Ready(0) || c.Ready(1) || c.W[3] != 0 || m["got"] != 1 || m["parked"] != 1 {
+		t.Errorf("one got it, one waits: %+v", c)
+	}
+	if f, ok := c.Going(0, begin, m); f != (api.Frame{Op: 1}) || !ok {
+		t.Errorf("it got it: %+v %v", f, ok)
+	}
+}
+
+// P16.2: of a step the words and the frame stay, and what it gives is given.
+func TestMade(t *testing.T) {
+	m := trial.Met{}
+	c := trial.NewCrowd(2, 1)
+	c.Tasks[1].Frame = need(2, false)
+	c.Acquire(1, m)
+	w, f := [6]int64{1, 2, 0, 4, 5, 6}, api.Frame{Op: 3, Stage: 2}
+	c.Made(0, trial.Of(api.Obj{W: w}, f, api.Act{}), m)
+	if c.W != w || c.Tasks[0].Frame != f || c.Ready(1) {
+		t.Errorf("nothing is given: %+v", c)
+	}
+	c.Made(0, trial.Of(api.Obj{W: w}, api.Frame{}, api.Act{Done: true, Give: 3}), m)
+	w[2]++
+	if c.W != w || c.Tasks[0].Frame != (api.Frame{}) || !c.Ready(1) || m["woken"] != 1 {
+		t.Errorf("it is given: %+v", c)
+	}
+}
+
 // P15.2, P16.2: all is over when nobody has a round left.
 func TestOver(t *testing.T) {
 	c := trial.NewCrowd(3, 1)
