@@ -55,15 +55,10 @@ func olds(state int64) []int64 {
 	return []int64{state, state ^ 1, state ^ 2, state ^ 4, state + 8, state - 8, ^state, state ^ least, state ^ 1<<32}
 }
 
-// moments are the numbers at the edges of a clock, of what one waits since, and of a patience.
-func moments() []int64 {
-	return []int64{least, -1, 0, 1, 20, most}
-}
-
 // frames are frames of a phase, and an Old: Awoke and Starve set and not, Since at each moment, and what a step doesn't look at, once empty and once full.
 func frames(phase int, old int64) []api.Frame {
 	var l []api.Frame
-	for _, since := range moments() {
+	for _, since := range trial.Moments() {
 		for flags := range 4 {
 			f := api.Frame{Phase: phase, Old: old, Since: since, Awoke: flags&1 != 0, Starve: flags&2 != 0}
 			l = append(l, f)
@@ -81,7 +76,7 @@ func TestEachStep(t *testing.T) {
 			for _, old := range olds(state) {
 				for i, f := range frames(phase, old) {
 					// The clock goes with the others; where it matters, in Phase 3, it is tried by itself below.
-					now := moments()[i%len(moments())]
+					now := trial.Moments()[i%len(trial.Moments())]
 					checkLock(t, full(state), f, now, 20)
 					checkUnlock(t, full(state), f)
 				}
@@ -217,8 +212,8 @@ func TestCome(t *testing.T) {
 
 // P15.1: locking of Phase 2: who waits from now on does so since now, whatever the clock is.
 func TestSince(t *testing.T) {
-	for _, now := range moments() {
-		for _, since := range moments() {
+	for _, now := range trial.Moments() {
+		for _, since := range trial.Moments() {
 			f := api.Frame{Phase: 2, Old: 9, Since: since}
 			checkLock(t, bare(9), f, now, 20)
 			_, g, _ := mutex.Lock(bare(9), f, now, 20)
@@ -262,9 +257,9 @@ func TestPatience(t *testing.T) {
 			}
 		}
 	}
-	for _, now := range moments() {
-		for _, since := range moments() {
-			for _, patience := range append(moments(), now-since, now-since-1, now-since+1) {
+	for _, now := range trial.Moments() {
+		for _, since := range trial.Moments() {
+			for _, patience := range append(trial.Moments(), now-since, now-since-1, now-since+1) {
 				checkLock(t, bare(2), api.Frame{Phase: 3, Since: since}, now, patience)
 			}
 		}

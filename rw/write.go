@@ -23,13 +23,10 @@ const (
 
 // lockWriters: writers come one by one.
 func lockWriters(o api.Obj, f api.Frame, now, patience int64) (api.Obj, api.Frame, api.Act) {
-	o, after, act := mutex.Lock(o, f, now, patience)
-	if !act.Done {
-		return o, after, act
-	}
-	after = mutex.Begin(f.Op)
-	after.Stage = writeCome
-	return o, after, api.Act{}
+	next := mutex.Begin(f.Op)
+	next.Stage = writeCome
+	o, f, a := mutex.Lock(o, f, now, patience)
+	return step.Then(next, o, f, a)
 }
 
 // comeToWrite: whoever would read from now on waits; the writer is in, if nobody reads.

@@ -9,35 +9,19 @@ import (
 	"torpor/trial"
 )
 
-// states are states of the mutex, W[0]: locked or not, woken, starving, and how many wait.
-func states() []int64 {
-	l := []int64{least, least + 1, least + 4, most, most - 1, -1, -8, -7}
-	for _, n := range []int64{0, 1, 2, 12, 1 << 29} {
-		for bits := range int64(8) {
-			l = append(l, n*8+bits)
-		}
-	}
-	return l
-}
-
 // P16.1: WLock's stage 0 and WUnlock's stage 2, by each Phase of layer 15's steps, with the clock and the patience at their edges.
 func TestMutexSteps(t *testing.T) {
-	moments := []int64{least, -1, 0, 1, 20, most}
-	for _, state := range states() {
+	for _, state := range trial.States() {
 		o := full(1, 1)
 		o.W[0] = state
-		for phase := -1; phase <= 5; phase++ {
-			for _, old := range []int64{state, state ^ 1, state + 8, 8, 12, 0} {
-				for k, since := range moments {
-					f := api.Frame{Op: 30, Phase: phase, Old: old, Since: since, Left: 3, Awoke: k%2 == 0, Starve: k%3 == 0}
-					for _, x := range moments {
-						writing(x, 20).Check(t, o, f)
-						writing(7, x).Check(t, o, f)
-					}
-					f.Stage = 2
-					ending().Check(t, o, f)
-				}
+		for _, f := range trial.MutexFrames(api.OpWLock, 0, state) {
+			for _, x := range trial.Moments() {
+				writing(x, 20).Check(t, o, f)
+				writing(7, x).Check(t, o, f)
 			}
+		}
+		for _, f := range trial.MutexFrames(api.OpWUnlock, 2, state) {
+			ending().Check(t, o, f)
 		}
 	}
 }
@@ -49,37 +33,7 @@ func words(state int64) [6]int64 {
 
 // P16.1: WLock's stage 0, by answers written out: each Phase; what its being done makes of the frame; the clock is 7, the patience 20.
 func TestLockWriters(t *testing.T) {
-	next := func(op int) api.Frame {
-		return api.Frame{Op: op, Stage: 1, Since: -1}
-	}
-	frame := func(phase int, old, since int64) api.Frame {
-		return api.Frame{Op: 30, Phase: phase, Old: old, Since: since}
-	}
-	waits := api.Frame{Op: 30, Phase: 3, Old: 1, Since: 7, Need: 2}
-	front := api.Frame{Op: 30, Phase: 3, Old: 9, Since: 3, Need: 2, Front: true}
-	got, starved := frame(3, 1, 5), frame(3, 1, -14)
-	come, handed := frame(2, 2, 5), frame(4, 12, -14)
-	come.Awoke = true
-	handed.Starve = true
-	oddBegin, oddLook, oddCome, oddWaits := trial.Odd(0), trial.Odd(0), trial.Odd(0), trial.Odd(0)
-	oddBegin.Phase, oddLook.Phase, oddCome.Phase, oddWaits.Phase = 0, 1, 2, 3
-	rows := []step{
-		{words(0), mutex.Begin(30), words(1), next(30), api.Act{}}, {words(0), api.Frame{}, words(1), next(0), api.Act{}},
-		{words(0), oddBegin, words(1), next(-9), api.Act{}}, {words(1), oddBegin, words(1), oddLook, api.Act{}},
-		{words(1), mutex.Begin(30), words(1), frame(1, 0, -1), api.Act{}}, {words(8), mutex.Begin(30), words(8), frame(1, 0, -1), api.Act{}},
-		{words(9), frame(1, 3, -1), words(9), frame(2, 9, -1), api.Act{}}, {words(0), frame(1, 3, -1), words(0), frame(2, 0, -1), api.Act{}},
-		{words(9), frame(2, 1, -1), words(9), frame(1, 1, -1), api.Act{}},
-		{words(1), frame(2, 1, -1), words(9), waits, api.Act{}}, {words(9), frame(2, 9, 3), words(17), front, api.Act{}},
-		{words(0), frame(2, 0, -1), words(1), next(30), api.Act{}}, {words(10), frame(2, 10, 3), words(11), next(30), api.Act{}},
-		{words(6), oddCome, words(12), oddWaits, api.Act{}},
-		{words(2), got, words(2), come, api.Act{}}, {words(12), starved, words(12), handed, api.Act{}},
-		{words(12), handed, words(1), next(30), api.Act{}}, {words(20), frame(4, 20, 5), words(9), next(30), api.Act{}},
-		{words(0), frame(5, 1, 2), words(0), frame(5, 1, 2), api.Act{}}, {words(0), frame(-1, 1, 2), words(0), frame(-1, 1, 2), api.Act{}},
-	}
-	for _, op := range []int{0, 26, 31, 41, 99, -1} {
-		rows = append(rows, step{words(0), mutex.Begin(op), words(1), next(op), api.Act{}})
-	}
-	checkRows(t, writing(7, 20), rows)
+	writing(7, 20).CheckMutex(t, api.KindRW, words, trial.LockSteps(api.OpWLock, 0, 1))
 }
 
 // P16.1: WLock's stage 0 leans on the clock and the patience that it is given.
@@ -200,22 +154,7 @@ func TestLetReadersIn(t *testing.T) {
 
 // P16.1: WUnlock's stage 2, by answers written out: each Phase, its fault, and what it gives.
 func TestUnlockWriters(t *testing.T) {
-	frame := func(phase int, old int64) api.Frame {
-		return api.Frame{Op: 31, Stage: 2, Phase: phase, Old: old, Since: -1}
-	}
-	var rows []step
-	for _, s := range []int64{0, 2, 4, 8, 12, -2, least} {
-		rows = append(rows, step{words(s), frame(0, 0), words(s), api.Frame{}, api.Act{Fault: api.FaultUnlock}})
-	}
-	rows = append(rows,
-		step{words(1), frame(0, 0), words(0), api.Frame{}, api.Act{Done: true}},
-		step{words(9), frame(0, 0), words(8), frame(1, 8), api.Act{}}, step{words(13), frame(0, 0), words(12), frame(2, 12), api.Act{}},
-		step{words(9), frame(1, 8), words(9), frame(1, 9), api.Act{}}, step{words(8), frame(1, 8), words(2), frame(3, 8), api.Act{}},
-		step{words(9), frame(1, 9), words(9), api.Frame{}, api.Act{Done: true}}, step{words(2), frame(1, 2), words(2), api.Frame{}, api.Act{Done: true}},
-		step{words(12), frame(2, 12), words(12), api.Frame{}, api.Act{Done: true, Give: 2, Hand: true}},
-		step{words(2), frame(3, 8), words(2), api.Frame{}, api.Act{Done: true, Give: 2}},
-		step{words(1), frame(4, 8), words(1), frame(4, 8), api.Act{}}, step{words(1), frame(-1, 8), words(1), frame(-1, 8), api.Act{}})
-	checkRows(t, ending(), rows)
+	ending().CheckMutex(t, api.KindRW, words, trial.UnlockSteps(api.OpWUnlock, 2))
 }
 
 // P16.1: who ends writing lets in just as many readers as are there, each by a Give 4, and then unlocks.

@@ -23,3 +23,11 @@ func Done(o api.Obj) (api.Obj, api.Frame, api.Act) {
 func Fault(o api.Obj, x api.Fault) (api.Obj, api.Frame, api.Act) {
 	return o, api.Frame{}, api.Act{Fault: x}
 }
+
+// Then: a step that is a stage of something else: where it is done, that isn't, but the next frame begins, and what the step gives is given.
+func Then(next api.Frame, o api.Obj, f api.Frame, a api.Act) (api.Obj, api.Frame, api.Act) {
+	if !a.Done {
+		return o, f, a
+	}
+	return o, next, api.Act{Give: a.Give, Hand: a.Hand}
+}

@@ -51,3 +51,28 @@ func TestFault(t *testing.T) {
 		same(t, "Fault", func(o api.Obj) trial.Answer { return trial.Of(step.Fault(o, x)) }, api.Act{Fault: x})
 	}
 }
+
+// P16.1, P18.1: where a step is done the next frame begins, and no more is asked for than what it gives; what isn't done, and a fault, stays as it is.
+func TestThen(t *testing.T) {
+	next, f := api.Frame{Op: 30, Stage: 1, Since: -1}, trial.Odd(0)
+	for _, k := range []struct {
+		a, want api.Act
+		g       api.Frame
+	}{
+		{api.Act{}, api.Act{}, f},
+		{api.Act{Give: 4}, api.Act{Give: 4}, f},
+		{api.Act{Fault: api.FaultUnlock}, api.Act{Fault: api.FaultUnlock}, f},
+		{api.Act{Park: true, Hand: true, Give: 2, Value: 3, Wake: []int{1}}, api.Act{Park: true, Hand: true, Give: 2, Value: 3, Wake: []int{1}}, f},
+		{api.Act{Done: true}, api.Act{}, next},
+		{api.Act{Done: true, Give: 2}, api.Act{Give: 2}, next},
+		{api.Act{Done: true, Give: 2, Hand: true}, api.Act{Give: 2, Hand: true}, next},
+		{api.Act{Done: true, Value: 1}, api.Act{}, next},
+	} {
+		for _, o := range objects() {
+			want := trial.Answer{O: o, F: k.g, A: k.want}
+			if got := trial.Of(step.Then(next, o, f, k.a)); !got.Same(want) {
+				t.Errorf("behind %+v: %+v, not %+v", k.a, got, want)
+			}
+		}
+	}
+}
