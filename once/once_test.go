@@ -107,7 +107,7 @@ func TestTell(t *testing.T) {
 func TestMutexSteps(t *testing.T) {
 	for _, third := range thirds() {
 		words := func(state int64) [6]int64 { return words(state, third) }
-		coming(7, 20).CheckMutex(t, api.KindOnce, words, trial.LockSteps(api.OpOnce, 1, 2))
+		coming(7, 20).CheckMutex(t, api.KindOnce, words, trial.Then(trial.Next(2), trial.LockSteps(api.OpOnce, 1)))
 		coming(7, 20).CheckMutex(t, api.KindOnce, words, trial.UnlockSteps(api.OpOnce, 3))
 		ending().CheckMutex(t, api.KindOnce, words, trial.UnlockSteps(api.OpOnceEnd, 1))
 	}
@@ -130,39 +130,11 @@ func TestMutexEdges(t *testing.T) {
 	}
 }
 
-// P18.1: who comes waits since now, unless he waits already; whatever the clock is.
-func TestSince(t *testing.T) {
-	for _, now := range append(trial.Moments(), 5, 1<<33) {
-		for _, since := range append(trial.Moments(), 5, -2) {
-			f := api.Frame{Op: api.OpOnce, Stage: 1, Phase: 2, Old: 9, Since: since}
-			g := api.Frame{Op: api.OpOnce, Stage: 1, Phase: 3, Old: 9, Since: now, Need: 2}
-			if since >= 0 {
-				g.Since, g.Front = since, true
-			}
-			coming(now, 20).CheckWords(t, api.KindOnce, words(9, 0), f, words(17, 0), g, api.Act{})
-		}
-	}
-}
-
-// P18.1: who is woken starves if he waited for longer than the patience: just that long, one tick less, one more; also where the difference is cut to 64 bits.
-func TestPatience(t *testing.T) {
-	for _, k := range []struct {
-		now, since, patience int64
-		starves              bool
-	}{
-		{29, 10, 20, false}, {30, 10, 20, false}, {31, 10, 20, true}, {31, 10, 21, false}, {10, 10, 0, false}, {11, 10, 0, true}, {9, 10, 0, false},
-		{10, 10, -1, true}, {10, 11, -1, false}, {19, -1, 20, false}, {20, -1, 20, true}, {0, 0, 20, false}, {1 << 33, 0, 1 << 33, false}, {1<<33 + 1, 0, 1 << 33, true},
-		{1 << 32, 0, 5, true}, {most, 0, most, false}, {most, 0, most - 1, true}, {0, -1, least, true}, {7, 7, most, false},
-		{most, -1, most, false}, {most, -1, least, false}, {most, -2, least, true}, {least, 1, most - 1, true}, {least, 1, most, false}, {least, 0, least, false},
-	} {
-		for _, starved := range []bool{false, true} {
-			f := api.Frame{Op: api.OpOnce, Stage: 1, Phase: 3, Old: 1, Since: k.since, Starve: starved}
-			come, handed := at(f, 1, 2), at(f, 1, 4)
-			come.Old, come.Awoke, come.Starve = 2, true, k.starves || starved
-			handed.Old, handed.Starve = 12, k.starves || starved
-			coming(k.now, k.patience).CheckWords(t, api.KindOnce, words(2, 0), f, words(2, 0), come, api.Act{})
-			coming(k.now, k.patience).CheckWords(t, api.KindOnce, words(12, 1), f, words(12, 1), handed, api.Act{})
-		}
+// P18.1: Once's stage 1, at any time, and with any patience: who comes waits since now, unless he waits already, and who is woken starves if he waited for longer than the patience.
+func TestClock(t *testing.T) {
+	for _, third := range thirds() {
+		words := func(state int64) [6]int64 { return words(state, third) }
+		trial.CheckClock(t, coming, api.KindOnce, words, trial.ClockSteps(api.OpOnce, 1))
 	}
 }
 

@@ -33,26 +33,12 @@ func words(state int64) [6]int64 {
 
 // P16.1: WLock's stage 0, by answers written out: each Phase; what its being done makes of the frame; the clock is 7, the patience 20.
 func TestLockWriters(t *testing.T) {
-	writing(7, 20).CheckMutex(t, api.KindRW, words, trial.LockSteps(api.OpWLock, 0, 1))
+	writing(7, 20).CheckMutex(t, api.KindRW, words, trial.Then(trial.Next(1), trial.LockSteps(api.OpWLock, 0)))
 }
 
 // P16.1: WLock's stage 0 leans on the clock and the patience that it is given.
 func TestClock(t *testing.T) {
-	f := api.Frame{Op: 30, Phase: 2, Old: 1, Since: -1}
-	for _, now := range []int64{0, 5, most, least} {
-		if _, g, _ := rw.WLock(api.Obj{W: words(1)}, f, now, 20); g.Since != now {
-			t.Errorf("who comes at %d waits since %d", now, g.Since)
-		}
-	}
-	f = api.Frame{Op: 30, Phase: 3, Since: 10}
-	for _, k := range []struct {
-		now, patience int64
-		starves       bool
-	}{{29, 20, false}, {30, 20, false}, {31, 20, true}, {31, 21, false}, {10, 0, false}, {10, -1, true}} {
-		if _, g, _ := rw.WLock(api.Obj{W: words(1)}, f, k.now, k.patience); g.Starve != k.starves {
-			t.Errorf("since 10, at %d, patience %d: %v", k.now, k.patience, g.Starve)
-		}
-	}
+	trial.CheckClock(t, writing, api.KindRW, words, trial.ClockSteps(api.OpWLock, 0))
 }
 
 // P16.1: WLock's stage 1, by answers written out: W[4] that was 0, above, and below.

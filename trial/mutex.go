@@ -50,9 +50,15 @@ func mutexFrame(op, stage, phase int, old, since int64) api.Frame {
 	return api.Frame{Op: op, Stage: stage, Phase: phase, Old: old, Since: since}
 }
 
-// LockSteps are steps of locking within a stage, by answers written out, of each Phase; the clock is 7, the patience 20. Behind what is done a new frame of the next stage begins.
-func LockSteps(op, stage, next int) []MutexStep {
-	then := func(op int) api.Frame { return api.Frame{Op: op, Stage: next, Since: -1} }
+// oddOf is a frame of a stage, and of that Phase, all else of which holds something.
+func oddOf(stage, phase int) api.Frame {
+	f := Odd(stage)
+	f.Phase = phase
+	return f
+}
+
+// LockSteps are steps of locking within a stage that is the last one, by answers written out, of each Phase; the clock is 7, the patience 20.
+func LockSteps(op, stage int) []MutexStep {
 	frame := func(phase int, old, since int64) api.Frame { return mutexFrame(op, stage, phase, old, since) }
 	begin := frame(0, 0, -1)
 	waits := api.Frame{Op: op, Stage: stage, Phase: 3, Old: 1, Since: 7, Need: 2}
@@ -61,22 +67,24 @@ func LockSteps(op, stage, next int) []MutexStep {
 	come, handed := frame(2, 2, 5), frame(4, 12, -14)
 	come.Awoke = true
 	handed.Starve = true
-	oddBegin, oddLook, oddCome, oddWaits := Odd(stage), Odd(stage), Odd(stage), Odd(stage)
-	oddBegin.Phase, oddLook.Phase, oddCome.Phase, oddWaits.Phase = 0, 1, 2, 3
+	oddCome, oddWaits := oddOf(stage, 2), oddOf(stage, 3)
+	done := func(state int64, f api.Frame, behind int64) MutexStep {
+		return MutexStep{state, f, behind, api.Frame{}, api.Act{Done: true}}
+	}
 	l := []MutexStep{
-		{0, begin, 1, then(op), api.Act{}}, {0, api.Frame{Stage: stage}, 1, then(0), api.Act{}},
-		{0, oddBegin, 1, then(oddBegin.Op), api.Act{}}, {1, oddBegin, 1, oddLook, api.Act{}},
+		done(0, begin, 1), done(0, api.Frame{Stage: stage}, 1), done(0, oddOf(stage, 0), 1),
+		{1, oddOf(stage, 0), 1, oddOf(stage, 1), api.Act{}},
 		{1, begin, 1, frame(1, 0, -1), api.Act{}}, {8, begin, 8, frame(1, 0, -1), api.Act{}},
 		{9, frame(1, 3, -1), 9, frame(2, 9, -1), api.Act{}}, {0, frame(1, 3, -1), 0, frame(2, 0, -1), api.Act{}},
 		{9, frame(2, 1, -1), 9, frame(1, 1, -1), api.Act{}},
 		{1, frame(2, 1, -1), 9, waits, api.Act{}}, {9, frame(2, 9, 3), 17, front, api.Act{}},
-		{0, frame(2, 0, -1), 1, then(op), api.Act{}}, {10, frame(2, 10, 3), 11, then(op), api.Act{}},
+		done(0, frame(2, 0, -1), 1), done(10, frame(2, 10, 3), 11),
 		{6, oddCome, 12, oddWaits, api.Act{}},
 		{2, got, 2, come, api.Act{}}, {12, starved, 12, handed, api.Act{}},
-		{12, handed, 1, then(op), api.Act{}}, {20, frame(4, 20, 5), 9, then(op), api.Act{}},
+		done(12, handed, 1), done(20, frame(4, 20, 5), 9),
 	}
 	for _, other := range []int{0, 26, 31, 34, 41, 99, -1} {
-		l = append(l, MutexStep{0, mutexFrame(other, stage, 0, 0, -1), 1, then(other), api.Act{}})
+		l = append(l, done(0, mutexFrame(other, stage, 0, 0, -1), 1))
 	}
 	for _, phase := range Others(5) {
 		l = append(l, MutexStep{0, frame(phase, 1, 2), 0, frame(phase, 1, 2), api.Act{}})
@@ -89,17 +97,82 @@ func UnlockSteps(op, stage int) []MutexStep {
 	frame := func(phase int, old int64) api.Frame { return mutexFrame(op, stage, phase, old, -1) }
 	var l []MutexStep
 	for _, s := range []int64{0, 2, 4, 8, 12, -2, math.MinInt64} {
-		l = append(l, MutexStep{s, frame(0, 0), s, api.Frame{}, api.Act{Fault: api.FaultUnlock}})
+		for _, f := range []api.Frame{frame(0, 0), oddOf(stage, 0)} {
+			l = append(l, MutexStep{s, f, s, api.Frame{}, api.Act{Fault: api.FaultUnlock}})
+		}
 	}
-	l = append(l,
-		MutexStep{1, frame(0, 0), 0, api.Frame{}, api.Act{Done: true}}, MutexStep{1, api.Frame{Stage: stage}, 0, api.Frame{}, api.Act{Done: true}},
-		MutexStep{9, frame(0, 0), 8, frame(1, 8), api.Act{}}, MutexStep{13, frame(0, 0), 12, frame(2, 12), api.Act{}},
-		MutexStep{9, frame(1, 8), 9, frame(1, 9), api.Act{}}, MutexStep{8, frame(1, 8), 2, frame(3, 8), api.Act{}},
-		MutexStep{9, frame(1, 9), 9, api.Frame{}, api.Act{Done: true}}, MutexStep{2, frame(1, 2), 2, api.Frame{}, api.Act{Done: true}},
-		MutexStep{12, frame(2, 12), 12, api.Frame{}, api.Act{Done: true, Give: 2, Hand: true}},
-		MutexStep{2, frame(3, 8), 2, api.Frame{}, api.Act{Done: true, Give: 2}})
+	oddWake, oddGive := oddOf(stage, 1), oddOf(stage, 3)
+	oddWake.Old, oddGive.Old = 8, 8
+	isDone, gives, hands := api.Act{Done: true}, api.Act{Done: true, Give: 2}, api.Act{Done: true, Give: 2, Hand: true}
+	l = append(l, []MutexStep{
+		{1, frame(0, 0), 0, api.Frame{}, isDone}, {1, api.Frame{Stage: stage}, 0, api.Frame{}, isDone}, {1, oddOf(stage, 0), 0, api.Frame{}, isDone},
+		{9, frame(0, 0), 8, frame(1, 8), api.Act{}}, {13, frame(0, 0), 12, frame(2, 12), api.Act{}}, {9, oddOf(stage, 0), 8, oddWake, api.Act{}},
+		{9, frame(1, 8), 9, frame(1, 9), api.Act{}}, {8, frame(1, 8), 2, frame(3, 8), api.Act{}}, {8, oddWake, 2, oddGive, api.Act{}},
+		{9, frame(1, 9), 9, api.Frame{}, isDone}, {2, frame(1, 2), 2, api.Frame{}, isDone}, {10, frame(1, 10), 10, api.Frame{}, isDone}, {12, frame(1, 12), 12, api.Frame{}, isDone}, {6, oddOf(stage, 1), 6, api.Frame{}, isDone},
+		{12, frame(2, 12), 12, api.Frame{}, hands}, {12, oddOf(stage, 2), 12, api.Frame{}, hands},
+		{2, frame(3, 8), 2, api.Frame{}, gives}, {2, oddGive, 2, api.Frame{}, gives},
+	}...)
+	for _, other := range []int{0, 26, 31, 34, 41, 99, -1} {
+		l = append(l, MutexStep{1, mutexFrame(other, stage, 0, 0, -1), 0, api.Frame{}, isDone})
+	}
 	for _, phase := range Others(4) {
 		l = append(l, MutexStep{1, frame(phase, 8), 1, frame(phase, 8), api.Act{}})
+	}
+	return l
+}
+
+// Then are steps of a mutex within a stage that isn't the last one: behind what is done there the next frame begins, which hangs on the one before, and what is given is given.
+func Then(next func(f api.Frame) api.Frame, steps []MutexStep) []MutexStep {
+	var l []MutexStep
+	for _, s := range steps {
+		if s.A.Done {
+			s.G, s.A = next(s.F), api.Act{Give: s.A.Give, Hand: s.A.Hand}
+		}
+		l = append(l, s)
+	}
+	return l
+}
+
+// Next tells of a frame the one with which a stage begins behind it.
+func Next(stage int) func(f api.Frame) api.Frame {
+	return func(f api.Frame) api.Frame { return api.Frame{Op: f.Op, Stage: stage, Since: -1} }
+}
+
+// ClockStep is a step of a mutex at a time, with a patience.
+type ClockStep struct {
+	Now, Patience int64
+	MutexStep
+}
+
+// ClockSteps are steps of locking within a stage that hang on the clock, by answers written out: who comes waits since now, unless he waits already; and who is woken starves if he waited for longer than the patience: just that long, one tick less, one more; also where the difference is cut to 64 bits.
+func ClockSteps(op, stage int) []ClockStep {
+	var l []ClockStep
+	for _, now := range append(Moments(), 5, 1<<33) {
+		for _, since := range append(Moments(), 5, -2) {
+			f := mutexFrame(op, stage, 2, 9, since)
+			g := api.Frame{Op: op, Stage: stage, Phase: 3, Old: 9, Since: now, Need: 2}
+			if since >= 0 {
+				g.Since, g.Front = since, true
+			}
+			l = append(l, ClockStep{now, 20, MutexStep{9, f, 17, g, api.Act{}}})
+		}
+	}
+	const least, most = math.MinInt64, math.MaxInt64
+	for _, k := range []struct {
+		now, since, patience int64
+		starves              bool
+	}{
+		{29, 10, 20, false}, {30, 10, 20, false}, {31, 10, 20, true}, {31, 10, 21, false}, {10, 10, 0, false}, {11, 10, 0, true}, {9, 10, 0, false},
+		{10, 10, -1, true}, {10, 11, -1, false}, {19, -1, 20, false}, {20, -1, 20, true}, {0, 0, 20, false}, {1 << 33, 0, 1 << 33, false}, {1<<33 + 1, 0, 1 << 33, true},
+		{1 << 32, 0, 5, true}, {most, 0, most, false}, {most, 0, most - 1, true}, {0, -1, least, true}, {7, 7, most, false},
+		{most, -1, most, false}, {most, -1, least, false}, {most, -2, least, true}, {least, 1, most - 1, true}, {least, 1, most, false}, {least, 0, least, false},
+	} {
+		for _, starved := range []bool{false, true} {
+			f, come, handed := mutexFrame(op, stage, 3, 1, k.since), mutexFrame(op, stage, 2, 2, k.since), mutexFrame(op, stage, 4, 12, k.since)
+			f.Starve, come.Starve, handed.Starve = starved, k.starves || starved, k.starves || starved
+			come.Awoke = true
+			l = append(l, ClockStep{k.now, k.patience, MutexStep{2, f, 2, come, api.Act{}}}, ClockStep{k.now, k.patience, MutexStep{12, f, 12, handed, api.Act{}}})
+		}
 	}
 	return l
 }
@@ -109,5 +182,13 @@ func (c Call) CheckMutex(t T, kind int, words func(state int64) [6]int64, steps 
 	t.Helper()
 	for _, s := range steps {
 		c.CheckWords(t, kind, words(s.State), s.F, words(s.Behind), s.G, s.A)
+	}
+}
+
+// CheckClock is CheckMutex of steps that hang on the clock: which call makes one is told of the time, and the patience.
+func CheckClock(t T, at func(now, patience int64) Call, kind int, words func(state int64) [6]int64, steps []ClockStep) {
+	t.Helper()
+	for _, s := range steps {
+		at(s.Now, s.Patience).CheckMutex(t, kind, words, []MutexStep{s.MutexStep})
 	}
 }

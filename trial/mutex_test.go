@@ -58,29 +58,36 @@ func state(s int64) [6]int64 {
 	return [6]int64{s}
 }
 
-// lockingOf is the step of locking within a stage of that number: behind it the next one begins.
-func lockingOf(next int) trial.Call {
-	do := func(o api.Obj, f api.Frame) trial.Answer {
+// stages of each call: what is done of the last one is done, and behind that of another one the next one begins.
+type stages struct{ last, other trial.Call }
+
+// calling is both stages of a call of a mutex: the last one, and one behind which a stage begins.
+func calling(next int, do func(o api.Obj, f api.Frame) (api.Obj, api.Frame, api.Act)) stages {
+	last := func(o api.Obj, f api.Frame) trial.Answer { return trial.Of(do(o, f)) }
+	other := func(o api.Obj, f api.Frame) trial.Answer {
 		then := api.Frame{Op: f.Op, Stage: next, Since: -1}
-		o, f, a := mutex.Lock(o, f, 7, 20)
+		o, f, a := do(o, f)
 		return trial.Of(step.Then(then, o, f, a))
 	}
-	return trial.Call{Name: "locking", Step: do, Want: do}
+	return stages{trial.Call{Name: "the last stage", Step: last, Want: last}, trial.Call{Name: "another stage", Step: other, Want: other}}
 }
 
-// unlocking is the step of unlocking.
-func unlocking() trial.Call {
-	do := func(o api.Obj, f api.Frame) trial.Answer { return trial.Of(mutex.Unlock(o, f)) }
-	return trial.Call{Name: "unlocking", Step: do, Want: do}
+// lockingAt is locking at a time, with a patience.
+func lockingAt(next int, now, patience int64) stages {
+	return calling(next, func(o api.Obj, f api.Frame) (api.Obj, api.Frame, api.Act) { return mutex.Lock(o, f, now, patience) })
 }
 
-// P16.1, P18.1: the steps that are written out are those of a mutex, whatever the op and the stage are, and of each Phase.
+// P16.1, P18.1, P19.1: the steps that are written out are those of a mutex, whatever the op and the stage are, and of each Phase.
 func TestMutexSteps(t *testing.T) {
 	for stage := range 4 {
 		for _, op := range []int{30, 34, 36} {
-			locks, unlocks := trial.LockSteps(op, stage, stage+1), trial.UnlockSteps(op, stage)
-			holds(t, "locking", "", func(t trial.T) { lockingOf(stage+1).CheckMutex(t, api.KindRW, state, locks) })
-			holds(t, "unlocking", "", func(t trial.T) { unlocking().CheckMutex(t, api.KindOnce, state, unlocks) })
+			lock, unlock := lockingAt(stage+1, 7, 20), calling(stage+1, mutex.Unlock)
+			locks, unlocks := trial.LockSteps(op, stage), trial.UnlockSteps(op, stage)
+			next := trial.Next(stage + 1)
+			holds(t, "locking", "", func(t trial.T) { lock.last.CheckMutex(t, api.KindCond, state, locks) })
+			holds(t, "locking, and more", "", func(t trial.T) { lock.other.CheckMutex(t, api.KindRW, state, trial.Then(next, locks)) })
+			holds(t, "unlocking", "", func(t trial.T) { unlock.last.CheckMutex(t, api.KindOnce, state, unlocks) })
+			holds(t, "unlocking, and more", "", func(t trial.T) { unlock.other.CheckMutex(t, api.KindCond, state, trial.Then(next, unlocks)) })
 			for _, s := range slices.Concat(locks, unlocks) {
 				if s.F.Stage != stage {
 					t.Errorf("of stage %d: %+v", stage, s)
@@ -94,11 +101,71 @@ func TestMutexSteps(t *testing.T) {
 			}
 		}
 	}
-	// Where they aren't that is told of.
-	holds(t, "the wrong way", "not {", func(t trial.T) { unlocking().CheckMutex(t, api.KindRW, state, trial.LockSteps(30, 0, 1)) })
-	holds(t, "another stage", "not {", func(t trial.T) { lockingOf(2).CheckMutex(t, api.KindRW, state, trial.LockSteps(30, 0, 1)) })
-	holds(t, "other words", "not {", func(t trial.T) {
-		odd := func(s int64) [6]int64 { return [6]int64{s, s} }
-		lockingOf(1).CheckMutex(t, api.KindRW, odd, trial.LockSteps(30, 0, 1))
-	})
+}
+
+// P16.1, P18.1, P19.1: where steps aren't those that are written out that is told of.
+func TestWrongMutexSteps(t *testing.T) {
+	lock, unlock := lockingAt(2, 7, 20), calling(2, mutex.Unlock)
+	locks, unlocks := trial.LockSteps(30, 0), trial.UnlockSteps(30, 0)
+	other := func(s int64) [6]int64 { return [6]int64{s, s} }
+	for _, k := range []struct {
+		name  string
+		call  trial.Call
+		words func(int64) [6]int64
+		steps []trial.MutexStep
+	}{
+		{"the wrong way", unlock.last, state, locks},
+		{"the wrong way round", lock.last, state, unlocks},
+		{"another stage", lock.other, state, trial.Then(trial.Next(1), locks)},
+		{"not the last stage", unlock.other, state, unlocks},
+		{"the last stage", unlock.last, state, trial.Then(trial.Next(2), unlocks)},
+		{"other words", lock.last, other, locks},
+	} {
+		holds(t, k.name, "not {", func(t trial.T) { k.call.CheckMutex(t, api.KindRW, k.words, k.steps) })
+	}
+}
+
+// P16.1, P18.1, P19.1: behind what is done the next frame begins, and it isn't done, but what it gives is given; all else stays as it is.
+func TestThen(t *testing.T) {
+	f := api.Frame{Op: 36, Stage: 1, Phase: 3, Old: 8, Left: 5}
+	next := func(f api.Frame) api.Frame { return api.Frame{Op: f.Op, Left: f.Left + 1} }
+	for _, k := range []struct {
+		a, want api.Act
+		g       api.Frame
+	}{
+		{api.Act{Done: true}, api.Act{}, api.Frame{Op: 36, Left: 6}},
+		{api.Act{Done: true, Give: 2, Hand: true}, api.Act{Give: 2, Hand: true}, api.Frame{Op: 36, Left: 6}},
+		{api.Act{}, api.Act{}, f},
+		{api.Act{Fault: api.FaultUnlock}, api.Act{Fault: api.FaultUnlock}, f},
+	} {
+		steps := []trial.MutexStep{{State: 2, F: f, Behind: 3, G: f, A: k.a}}
+		l := trial.Then(next, steps)
+		if len(l) != 1 || l[0].State != 2 || l[0].F != f || l[0].Behind != 3 || l[0].G != k.g || !trial.SameAct(l[0].A, k.want) {
+			t.Errorf("behind %+v: %+v", k.a, l)
+		}
+		if steps[0].G != f || !trial.SameAct(steps[0].A, k.a) {
+			t.Errorf("what was handed in is changed: %+v", steps)
+		}
+	}
+	if g := trial.Next(2)(f); g != (api.Frame{Op: 36, Stage: 2, Since: -1}) {
+		t.Errorf("the next frame: %+v", g)
+	}
+}
+
+// P16.1, P18.1, P19.1: the steps that hang on the clock are those of a mutex; where another clock, or another patience, is gone by, that is told of.
+func TestClockSteps(t *testing.T) {
+	at := func(by, more int64) func(now, patience int64) trial.Call {
+		return func(now, patience int64) trial.Call { return lockingAt(2, now+by, patience+more).last }
+	}
+	for stage := range 4 {
+		steps := trial.ClockSteps(36, stage)
+		holds(t, "right", "", func(t trial.T) { trial.CheckClock(t, at(0, 0), api.KindRW, state, steps) })
+		holds(t, "another clock", "not {", func(t trial.T) { trial.CheckClock(t, at(1, 0), api.KindRW, state, steps) })
+		holds(t, "another patience", "not {", func(t trial.T) { trial.CheckClock(t, at(0, 1), api.KindRW, state, steps) })
+		for _, s := range steps {
+			if s.F.Stage != stage || s.G.Stage != stage {
+				t.Errorf("of stage %d: %+v", stage, s)
+			}
+		}
+	}
 }
